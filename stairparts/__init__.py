@@ -1,0 +1,1 @@
+"""Stairparts: whole numbers parted into sums."""
