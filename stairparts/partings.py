@@ -1,6 +1,6 @@
 """Partings: what they are, and how they are turned."""
 
-from stairparts.errors import NoParting
+from stairparts.errors import NoNumber, NoParting
 
 GREATEST_WHOLE = 200
 
@@ -8,6 +8,13 @@ GREATEST_WHOLE = 200
 def is_number(thing):
     """Tell whether thing is a whole number; True and False are none."""
     return isinstance(thing, int) and not isinstance(thing, bool)
+
+
+def check_number(thing):
+    """Refuse what is no whole number from 0 on."""
+    # The message does not show the thing: a number of very many digits cannot be written out.
+    if not is_number(thing) or thing < 0:
+        raise NoNumber("this is no number from 0 on")
 
 
 def is_parting(thing):
@@ -29,7 +36,7 @@ def is_parting(thing):
 
 def check_parting(thing):
     """Refuse what is no parting."""
-    # The message does not show the thing: a number of very many digits cannot be written out.
+    # As with numbers, the message does not show the thing.
     if not is_parting(thing):
         raise NoParting("this is no parting")
 

@@ -17,6 +17,30 @@ def small_partings(most_whole=8):
     return [parting for whole in range(most_whole + 1) for parting in partings_of(whole)]
 
 
+def own_turns(most_whole):
+    """All partings of the wholes up to this one whose rows are as their columns."""
+    return [parting for parting in small_partings(most_whole) if parting == columns_of(parting)]
+
+
+def boxes_of(parting):
+    return {(row, column) for row, part in enumerate(parting) for column in range(part)}
+
+
+def columns_of(parting):
+    """How many boxes each column of the stair has, from the left."""
+    boxes = boxes_of(parting)
+    columns = sorted({column for _, column in boxes})
+    return [len([box for box in boxes if box[1] == column]) for column in columns]
+
+
+def is_odd(parting):
+    return all(part % 2 == 1 for part in parting)
+
+
+def is_unlike(parting):
+    return len(set(parting)) == len(parting)
+
+
 def pairs_of_one_whole(most_whole=8):
     return [
         (one, other)
@@ -135,4 +159,21 @@ NO_NUMBERS = [
     ("a tuple", (1,)),
     ("a dict", {}),
     ("an object", object()),
+]
+
+# What is no number from 0 on.
+NO_COUNTS = NO_NUMBERS + [
+    ("one below 0", -1),
+    ("two below 0", -2),
+    ("far below 0", -(10 ** 5000)),
+    ("a float 0", 0.0),
+    ("a complex", 0j),
+    ("a set", {1}),
+]
+
+# What is no whole of a parting.
+NO_WHOLES = NO_COUNTS + [
+    ("a whole of 201", 201),
+    ("a whole of 1000", 1000),
+    ("a whole far beyond", 10 ** 5000),
 ]

@@ -3,7 +3,7 @@
 import inspect
 import unittest
 
-from stairparts import errors, order, partings
+from stairparts import counting, errors, kinds, order, partings, squares
 
 FUNCTIONS = [
     (partings, "is_parting", ["thing"]),
@@ -12,7 +12,20 @@ FUNCTIONS = [
     (order, "lacking_count", ["one", "other"]),
     (order, "let_down", ["parting", "first", "second"]),
     (order, "way_down", ["one", "other"]),
+    (kinds, "unlike_of", ["parting"]),
+    (kinds, "odd_of", ["parting"]),
+    (kinds, "bends_of", ["parting"]),
+    (kinds, "unbent", ["parting"]),
+    (squares, "square_of", ["parting"]),
+    (squares, "cut_square", ["parting"]),
+    (squares, "put_square", ["beside", "beneath", "number"]),
+    (counting, "how_many", ["whole", "most"]),
+    (counting, "number_of", ["parting"]),
+    (counting, "parting_of", ["whole", "number"]),
 ]
+
+# The arguments that may be left out, and what they are then.
+DEFAULTS = {("how_many", "most"): None}
 
 
 class FunctionsTest(unittest.TestCase):
@@ -29,9 +42,9 @@ class FunctionsTest(unittest.TestCase):
             with self.subTest(name=name):
                 parameters = inspect.signature(getattr(module, name)).parameters
                 self.assertEqual(list(parameters), arguments)
-                for parameter in parameters.values():
+                for argument, parameter in parameters.items():
                     self.assertEqual(parameter.kind, inspect.Parameter.POSITIONAL_OR_KEYWORD)
-                    self.assertIs(parameter.default, inspect.Parameter.empty)
+                    self.assertIs(parameter.default, DEFAULTS.get((name, argument), inspect.Parameter.empty))
 
     def test_arguments_by_name(self):
         self.assertIs(partings.is_parting(thing=[1]), True)
@@ -40,6 +53,16 @@ class FunctionsTest(unittest.TestCase):
         self.assertEqual(order.lacking_count(one=[1, 1], other=[2]), 1)
         self.assertEqual(order.let_down(parting=[2], first=0, second=1), [1, 1])
         self.assertEqual(order.way_down(one=[2], other=[1, 1]), [[2], [1, 1]])
+        self.assertEqual(kinds.unlike_of(parting=[1, 1]), [2])
+        self.assertEqual(kinds.odd_of(parting=[2]), [1, 1])
+        self.assertEqual(kinds.bends_of(parting=[2, 1]), [3])
+        self.assertEqual(kinds.unbent(parting=[3]), [2, 1])
+        self.assertEqual(squares.square_of(parting=[2, 1]), 1)
+        self.assertEqual(squares.cut_square(parting=[2, 1]), (1, [1], [1]))
+        self.assertEqual(squares.put_square(beside=[2], beneath=[1], number=1), [3, 1])
+        self.assertEqual(counting.how_many(whole=4, most=2), 3)
+        self.assertEqual(counting.number_of(parting=[2]), 1)
+        self.assertEqual(counting.parting_of(whole=2, number=1), [2])
 
 
 class ErrorsTest(unittest.TestCase):

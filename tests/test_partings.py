@@ -3,18 +3,7 @@
 import unittest
 
 from stairparts.partings import is_parting, turned
-from tests.samples import PARTINGS, no_partings, small_stair
-
-
-def boxes_of(parting):
-    return {(row, column) for row, part in enumerate(parting) for column in range(part)}
-
-
-def columns_of(parting):
-    """How many boxes each column of the stair has, from the left."""
-    boxes = boxes_of(parting)
-    columns = sorted({column for _, column in boxes})
-    return [len([box for box in boxes if box[1] == column]) for column in columns]
+from tests.samples import PARTINGS, columns_of, no_partings, small_stair
 
 
 class IsPartingTest(unittest.TestCase):
